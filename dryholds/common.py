@@ -64,8 +64,7 @@ def _barred_beside(halves, index, corner):
     coming nearer are half-planes with the corner on their border, and one or two of them are enough.
     """
     rows = [half.row for half in halves]
-    lines = [at for at, half in enumerate(halves) if half.reach == "line"]
-    beside = [at for at in lines if at != index and row_excess(rows[at], corner) == 0]
+    beside = [at for at, row in enumerate(rows) if row_excess(row, corner) == 0]
     pairs = [(at, index) for at in beside if _are_opposed(rows[at], rows[index])]
     triples = [(one, other, index) for one in beside for other in beside
                if one < other and _are_around(rows[one], rows[other], rows[index])]
@@ -73,7 +72,7 @@ def _barred_beside(halves, index, corner):
 
 
 def _are_opposed(one, other):
-    """Whether two rows point into just opposite ways."""
+    """Whether two rows point into just opposite ways; a row without a line points nowhere."""
     return _bend(one, other) == 0 and one[0] * other[0] + one[1] * other[1] < 0
 
 
@@ -169,10 +168,10 @@ def all_barred(halves):
 def _cancelling_indices(halves):
     """The indices of all two and three half-planes whose rows cancel out, but no fewer of theirs."""
     rows = [half.row for half in halves]
-    lines = [index for index, half in enumerate(halves) if half.reach == "line"]
-    pairs = [(one, two) for one in lines for two in lines if one < two and _are_opposed(rows[one], rows[two])]
-    triples = [(one, two, three) for one in lines for two in lines if one < two and _bend(rows[one], rows[two]) != 0
-               for three in lines if two < three and _are_around(rows[one], rows[two], rows[three])]
+    many = len(rows)
+    pairs = [(one, two) for one in range(many) for two in range(one + 1, many) if _are_opposed(rows[one], rows[two])]
+    triples = [(one, two, three) for one in range(many) for two in range(one + 1, many)
+               for three in range(two + 1, many) if _are_around(rows[one], rows[two], rows[three])]
     return pairs + triples
 
 

@@ -199,8 +199,6 @@ def outside_of(corners, half):
 def twice_area(corners):
     """Twice the area of a polygon."""
     _check_corners(corners)
-    if len(corners) < 3:
-        return ZERO
     parts = []
     for at, (weight, moment) in enumerate(corners):
         last_weight, last_moment = corners[at - 1]

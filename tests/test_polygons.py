@@ -162,6 +162,9 @@ class Polygons(Case):
     def test_far_corners(self):
         far = [half(1, 0, 10 ** 9), half(-1, 0, -10 ** 9), half(0, 1, -10 ** 12), half(0, -1, 10 ** 12)]
         self.same(polygon_of(far), (point(10 ** 9, -10 ** 12),))
+        # Two steep lines cross far beyond their bounds.
+        steep = [half(50, 49, 100), half(51, 50, -100)]
+        self.same(polygon_of([*steep, *[one.opposite().closed() for one in steep]]), points((9900, -10100)))
         slim = [half(1, BIG, 0), half(1, -BIG, 0), half(-1, 0, -BIG)]
         self.same(polygon_of(slim), points((0, 0), (BIG, -1), (BIG, 1)))
         near = [half(1, 0, 0), HalfPlane((-1, 1), (BIG - 1, BIG), (-1, 1)), HalfPlane((-1, 1), (-BIG, BIG - 1), (0, 1))]

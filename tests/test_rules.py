@@ -82,7 +82,8 @@ class Making(Case):
             self.refused(BadRule, {"what": "side"}, Rule, [half(-1, 0, 5), thing])
 
     def test_empty(self):
-        for sides in ([half(-1, 0, 1)], [*BOX, half(1, 0, 61)], [half(0, 1, 1), half(0, -1, 0)], [half(1, 0, 1), half(-1, 0, 0)]):
+        for sides in ([half(-1, 0, 1)], [*BOX, half(1, 0, 61)], [half(0, 1, 1), half(0, -1, 0)],
+                      [half(1, 0, 1), half(-1, 0, 0)]):
             self.refused(BadRule, {"what": "empty"}, Rule, sides)
 
     def test_open(self):
@@ -317,7 +318,8 @@ class OfSlots(Case):
         found = []
         for sign in (1, -1):
             left, moment = weight, Fraction(0)
-            for place, most in sorted([(f(place), f(most)) for place, most in slots.rows], key=lambda row: sign * row[0]):
+            rows = [(f(place), f(most)) for place, most in slots.rows]
+            for place, most in sorted(rows, key=lambda row: sign * row[0]):
                 moment += place * min(left, most)
                 left -= min(left, most)
             found.append(moment)

@@ -18,7 +18,8 @@ class RuleTexts(Case):
 
     def test_sign_by_sign(self):
         self.same(rule_text(tent()), TENT)
-        self.same(rule_text(Rule([half("-7/2", 0, "-5/3"), *BOX[1:]])), "side -7/2 0 -5/3\nside 0 1 -100\nside 0 -1 -100")
+        self.same(rule_text(Rule([half("-7/2", 0, "-5/3"), *BOX[1:]])),
+                  "side -7/2 0 -5/3\nside 0 1 -100\nside 0 -1 -100")
 
     def test_one_row_for_each_side(self):
         self.same(len(rule_text(Rule(around(24))).split("\n")), 24)
@@ -56,8 +57,8 @@ class RuleTexts(Case):
                     self.wrong(3, "number", TENT + "\n" + line + "\nx")
 
     def test_the_rule_is_judged_last(self):
-        for text, what in (("\n".join(["side 1 0 0"] * 25), "many"), ("side 0 0 0", "side"), (TENT + "\nside 0 0 -1", "side"),
-                           ("side -1 0 1", "empty"), ("side 1 0 0", "open")):
+        for text, what in (("\n".join(["side 1 0 0"] * 25), "many"), ("side 0 0 0", "side"),
+                           (TENT + "\nside 0 0 -1", "side"), ("side -1 0 1", "empty"), ("side 1 0 0", "open")):
             self.refused(BadRule, {"what": what}, parse_rule, text)
         self.wrong(25, "word", "\n".join(["side 1 0 0"] * 25) + "\nx")
 

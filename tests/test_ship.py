@@ -133,7 +133,8 @@ class Making(ShipCase):
         mark = (r(0), r(0))
         for many in range(1, 5):
             self.same(len(self.right(marks=[mark] * many).marks), many)
-        self.same(self.right(marks=([r(9), r(100)], (r("9/2"), (1, BIG)))).marks, ((r(9), r(100)), (r("9/2"), (1, BIG))))
+        self.same(self.right(marks=([r(9), r(100)], (r("9/2"), (1, BIG)))).marks,
+                  ((r(9), r(100)), (r("9/2"), (1, BIG))))
         for thing in ([], [mark] * 5, *NO_SEQUENCES):
             self.wrong(0, "mark", marks=thing)
         for row in ((r(10), r(1)), ((9 * BIG + 1, BIG), r(1)), ((-1, BIG), r(1)), (r(0), (-1, BIG)), (), (r(0),),

@@ -119,6 +119,8 @@ class Reading(Case):
         for at, line in enumerate(kinds):
             for later in kinds[at + 1:]:
                 self.wrong(1, "order", later + "\n" + line)
+        for line in kinds[:2]:
+            self.wrong(2, "order", f"hold 0 9 1 1 9\ntop 1\n{line}")
         for later in kinds[3:]:
             self.wrong(1, "order", later + "\ntop 1")
             self.wrong(2, "order", f"own 0 0\n{later}\ntop 1")

@@ -1,0 +1,127 @@
+"""The interface: every name stands in its own file, with its arguments; every method stands in its class itself."""
+import ast
+import importlib
+import inspect
+import pathlib
+import re
+import unittest
+
+import dryholds
+
+FOLDER = pathlib.Path(dryholds.__file__).parent
+
+FUNCTIONS = {
+    "ratios": """is_whole(thing, low=None, high=None) is_ratio(thing) make_ratio(top, bottom=1) plus(one, other)
+        minus(one, other) times(one, other) over(one, other) negative(one) compare(one, other) sum_of(ratios)
+        least_of(ratios) greatest_of(ratios) ratio_text(one)""",
+    "ship": "",
+    "shiptext": "ship_text(ship) parse_ship(text)",
+    "halfplanes": "",
+    "polygons": """polygon_of(halves) hull_of(points) added_polygons(one, other) cut_polygon(corners, half)
+        outside_of(corners, half) twice_area(corners) mean_of(corners) covers_cargo(corners, cargo) halves_of(corners)
+        corners_fault(corners)""",
+    "common": """find_common(halves) barred_fault(halves, barred) point_fault(halves, point) all_barred(halves)
+        needed_halves(halves)""",
+    "lots": """check_lot(ship, lot) check_cargo(cargo) check_hold(ship, hold) check_place(place) all_lots(ship)
+        lot_with(ship, lot, hold)""",
+    "cargotext": """cargo_text(cargo) lot_text(lot) damages_text(damages) parse_cargo(text) parse_lot(text)
+        parse_damages(text)""",
+    "postures": """sums_of(ship, lot) does_tip(ship, lot) posture_of(ship, lot, cargo) height_at(posture, place)
+        line_row(ship, lot, place) line_rows(ship, lot, places) cargo_of(ship, lot, posture)
+        posture_fault(ship, lot, cargo, posture) store_of(ship, lot, cargo, posture) is_off(ship, posture)""",
+    "lifts": "lift_of(ship, lot, put, seen) even_place(ship, lot) still_place(ship, lot, put)",
+    "waters": "push_of(ship, lot, posture, hold) water_of(ship, posture, hold) waters_of(ship, lot, posture)",
+    "slots": """cargo_by(slots, amounts) stowage_fault(slots, amounts, cargo) filled_from(slots, weight, end)
+        moments_at(slots, weight) stowage_for(slots, cargo)""",
+    "rules": """same_cargoes(one, other) is_within(one, other) moments_within(rule, weight)
+        reach_of(rule, by_weight, by_moment) parts_by(rule, half) rule_of(slots) corner_stowages(slots)""",
+    "ruletext": "rule_text(rule) parse_rule(text)",
+}
+GENERATORS = {("common", "all_barred"), ("lots", "all_lots")}
+CLASSES = {
+    ("ship", "Ship"): """__init__(self, holds, tops, marks, own, doors=(), ports=(), slack=(0, 1)) ends __len__(self)
+        __eq__(self, other) place_of(self, bulkhead) edge_of(self, bulkhead) mirrored(self) shifted(self, shift)
+        lengthened(self, size) deeper(self, size) split(self, hold, place) with_top(self, bulkhead, top)
+        without_door(self, number) without_port(self, number)""",
+    ("halfplanes", "HalfPlane"): """__init__(self, p, q, r, strict=False) reach holds_cargo(self, cargo)
+        excess_at(self, cargo) opposite(self) closed(self) is_same(self, other) __eq__(self, other)""",
+    ("common", "Point"): "__init__(self, cargo) __eq__(self, other)",
+    ("common", "Barred"): "__init__(self, indices, weights) __eq__(self, other)",
+    ("postures", "Floating"): "",
+    ("postures", "Posture"): "__init__(self, s, t) __eq__(self, other)",
+    ("postures", "Tips"): "__eq__(self, other)",
+    ("slots", "Slots"): """__init__(self, rows, most=None) total mirrored(self) shifted(self, by)
+        with_most(self, weight) __len__(self) __iter__(self) __eq__(self, other)""",
+    ("rules", "Rule"): """__init__(self, sides) least_weight greatest_weight at(cargo) mirrored(self) sheared(self, by)
+        scaled(self, by_weight, by_moment) with_side(self, half) with_most(self, weight) __contains__(self, cargo)
+        __eq__(self, other)""",
+}
+
+
+def told(text):
+    """Couples of a name and its arguments; a name without arguments is a property."""
+    inner = r"[^()]*(?:\([^()]*\)[^()]*)*"
+    found = re.findall(rf"(\w+)(\({inner}\))?", " ".join(text.split()))
+    return [(name, arguments or None) for name, arguments in found]
+
+
+class Interface(unittest.TestCase):
+    def test_functions(self):
+        for name, text in FUNCTIONS.items():
+            module = importlib.import_module(f"dryholds.{name}")
+            for function, arguments in told(text):
+                with self.subTest(module=name, function=function):
+                    thing = vars(module)[function]
+                    self.assertTrue(inspect.isfunction(thing))
+                    self.assertEqual(thing.__module__, f"dryholds.{name}")
+                    self.assertEqual(str(inspect.signature(thing)), arguments)
+                    self.assertEqual(inspect.isgeneratorfunction(thing), (name, function) in GENERATORS)
+
+    def test_classes(self):
+        for (name, kind), text in CLASSES.items():
+            made = vars(importlib.import_module(f"dryholds.{name}"))[kind]
+            self.assertTrue(inspect.isclass(made))
+            self.assertEqual(made.__module__, f"dryholds.{name}")
+            for member, arguments in told(text):
+                with self.subTest(kind=kind, member=member):
+                    thing = vars(made)[member]
+                    if arguments is None:
+                        self.assertIsInstance(thing, property)
+                    elif member == "at":
+                        self.assertIsInstance(thing, staticmethod)
+                        self.assertEqual(str(inspect.signature(thing.__func__)), arguments)
+                    elif member in ("__eq__", "__contains__"):
+                        self.assertEqual(len(inspect.signature(thing).parameters), 2)
+                    else:
+                        self.assertEqual(str(inspect.signature(thing)), arguments)
+
+    def test_constants(self):
+        ratios = importlib.import_module("dryholds.ratios")
+        self.assertEqual((ratios.ZERO, ratios.ONE), ((0, 1), (1, 1)))
+
+
+class Files(unittest.TestCase):
+    def test_the_package_holds_only_its_modules(self):
+        for path in FOLDER.iterdir():
+            self.assertTrue(path.suffix == ".py" or path.name == "__pycache__", path.name)
+
+    def test_sizes_and_characters(self):
+        for path in sorted(FOLDER.glob("*.py")):
+            text = path.read_text(encoding="ascii")
+            self.assertNotIn("\t", text)
+            self.assertLessEqual(len(text.splitlines()), 399, path.name)
+            self.assertLessEqual(max(len(line) for line in text.splitlines()), 120, path.name)
+            for node in ast.walk(ast.parse(text)):
+                if isinstance(node, ast.FunctionDef):
+                    self.assertLessEqual(node.end_lineno - node.lineno + 1, 40, f"{path.name} {node.name}")
+
+    def test_imports_are_from_the_package_and_what_is_allowed(self):
+        for path in sorted(FOLDER.glob("*.py")):
+            for node in ast.walk(ast.parse(path.read_text(encoding="ascii"))):
+                self.assertNotIsInstance(node, ast.Import)
+                if isinstance(node, ast.ImportFrom):
+                    self.assertTrue(node.module == "math" or node.module.startswith("dryholds."), node.module)
+
+
+if __name__ == "__main__":
+    unittest.main()
