@@ -117,11 +117,11 @@ def _row_at(ship, sums, place):
 
 def cargo_of(ship, lot, posture):
     """The weight and moment of the cargo with which the ship with this lot has this line."""
-    weight, moment = _load_under(sums_of(ship, lot), posture)
+    weight, moment = load_under(sums_of(ship, lot), posture)
     return (minus(weight, ship.own[0]), minus(moment, ship.own[1]))
 
 
-def _load_under(sums, posture):
+def load_under(sums, posture):
     """The load that a line carries."""
     p, q, r = sums
     return (plus(times(p, posture.s), times(q, posture.t)), plus(times(q, posture.s), times(r, posture.t)))
@@ -131,7 +131,7 @@ def posture_fault(ship, lot, cargo, posture):
     """None if this is the posture of the cargo, otherwise a word."""
     sums = sums_of(ship, lot)
     weight, moment = loaded(ship, check_cargo(cargo))
-    carried, turned = _load_under(sums, posture)
+    carried, turned = load_under(sums, posture)
     if compare(stiffness(sums), ZERO) <= 0:
         return "tips"
     if carried != weight:
@@ -145,7 +145,7 @@ def store_of(ship, lot, cargo, posture):
     """The store of a line: the posture of the cargo has the least."""
     sums = sums_of(ship, lot)
     weight, moment = loaded(ship, check_cargo(cargo))
-    carried, turned = _load_under(sums, posture)
+    carried, turned = load_under(sums, posture)
     lift = plus(times(carried, posture.s), times(turned, posture.t))
     sunk = plus(times(weight, posture.s), times(moment, posture.t))
     return minus(times(make_ratio(1, 2), lift), sunk)
