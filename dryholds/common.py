@@ -38,7 +38,7 @@ def find_common(halves):
     for index, half in enumerate(halves):
         left = trimmed(sides, half.row)
         if not left:
-            return _barred_beside(halves, index, _nearest(sides, half.row))
+            return _barred_beside(halves, index, _nearest([corner for _, corner in sides], half.row))
         sides = left
     # The mean of all corners is on a border only if all closed common points are.
     middle = middle_of([point_at(corner) for _, corner in sides])
@@ -48,10 +48,16 @@ def find_common(halves):
     return Point(middle)
 
 
-def _nearest(sides, row):
-    """The corner of a region that is nearest to being within a row."""
-    nearest = sides[0][1]
-    for _, corner in sides:
+def barred_behind(halves, corners, half):
+    """The Barred of half-planes and, behind them, one that holds none of their points, which have these corners."""
+    nearest = _nearest([whole_corner(corner) for corner in corners], half.row)
+    return _barred_beside([*halves, half], len(halves), nearest)
+
+
+def _nearest(corners, row):
+    """Of the corners of a region the one that is nearest to being within a row."""
+    nearest = corners[0]
+    for corner in corners:
         if row_excess(row, corner) * nearest[2] > row_excess(row, nearest) * corner[2]:
             nearest = corner
     return nearest

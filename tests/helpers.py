@@ -26,6 +26,10 @@ def f(ratio):
     return Fraction(ratio[0], ratio[1])
 
 
+def negated(ratios):
+    return tuple(r(-f(ratio)) for ratio in ratios)
+
+
 def rs(*values):
     return tuple(r(value) for value in values)
 

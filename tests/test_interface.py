@@ -36,8 +36,31 @@ FUNCTIONS = {
     "rules": """same_cargoes(one, other) is_within(one, other) moments_within(rule, weight)
         reach_of(rule, by_weight, by_moment) parts_by(rule, half) rule_of(slots) corner_stowages(slots)""",
     "ruletext": "rule_text(rule) parse_rule(text)",
+    "floods": "goes_over(ship, lot, hold) can_flood(ship, lot, cargo) open_edges(ship, lot, cargo, hold)",
+    "wrongs": "wrongs_of(ship, lot) first_wrong(ship, lot, cargo)",
+    "lotsfrom": """lots_from(ship, damage, cargo) ends_from(ship, damage, cargo) settle(ship, damage, cargo)
+        has_one_end(ship, damage, cargo) is_lost(ship, damage, cargo) must_flood(ship, damage, cargo)
+        may_flood(ship, damage, cargo)""",
+    "ways": """play_way(ship, damage, cargo, way) way_of(ship, damage, cargo, lot) all_ways(ship, damage, cargo, lot)
+        count_ways(ship, damage, cargo, lot) early_loss(ship, damage, cargo)""",
+    "forks": "meeting_of(ship, damage, cargo) meeting_fault(ship, damage, cargo, meeting)",
+    "rays": """load_of(ship, cargo) cargo_at(ship, cargo, factor) deepening_of(ship, lot, cargo)
+        least_factors(ship, damage, cargo) bearing_of(ship, damage, cargo)""",
+    "damages": "check_damages(ship, damages) damage_runs(ship, most)",
+    "rows": """flood_rows(ship, rule, damage) rows_onward(ship, lot, halves, corners)
+        row_along(ship, rule, damage, floods)""",
+    "restings": "decide_ends(ship, rule, damages) decided_fault(ship, rule, damages, decided)",
+    "verdict": """verdict_of(ship, rule, damages, *, most=3000) is_safe(ship, rule, damages, *, most=3000)
+        loss_of(ship, damages, cargo) is_safe_cargo(ship, damages, cargo)""",
+    "treejudge": "tree_fault(ship, rule, damages, trees) lost_fault(ship, rule, damages, lost)",
+    "heights": """highest_line(ship, rule, damages, place, *, most=3000)
+        lowest_line(ship, rule, damages, place, *, most=3000)""",
+    "losttext": "lost_text(lost) parse_lost(text)",
+    "cells": "cell_of(halves) new_halves(halves, others) cells_left(cells, groups)",
+    "charts": "chart_of(ship, rule, damages)",
 }
-GENERATORS = {("common", "all_barred"), ("lots", "all_lots")}
+GENERATORS = {("common", "all_barred"), ("lots", "all_lots"), ("ways", "all_ways"), ("rows", "flood_rows"),
+              ("rows", "rows_onward")}
 CLASSES = {
     ("ship", "Ship"): """__init__(self, holds, tops, marks, own, doors=(), ports=(), slack=(0, 1)) ends __len__(self)
         __eq__(self, other) place_of(self, bulkhead) edge_of(self, bulkhead) mirrored(self) shifted(self, shift)
@@ -54,6 +77,25 @@ CLASSES = {
         with_most(self, weight) __len__(self) __iter__(self) __eq__(self, other)""",
     ("rules", "Rule"): """__init__(self, sides) least_weight greatest_weight at(cargo) mirrored(self) sheared(self, by)
         scaled(self, by_weight, by_moment) with_side(self, half) with_most(self, weight) __contains__(self, cargo)
+        __eq__(self, other)""",
+    ("ways", "Stopped"): "__init__(self, index) __eq__(self, other)",
+    ("ways", "Loss"): "__init__(self, way, lot, wrong) __eq__(self, other)",
+    ("forks", "Joined"): "__init__(self, rows) __eq__(self, other)",
+    ("forks", "Fork"): "__init__(self, lot, one, other, one_lots, other_lots) __eq__(self, other)",
+    ("rays", "Bearing"): "__init__(self, factor, reached) __eq__(self, other)",
+    ("rows", "FloodRow"): "__init__(self, damage, lot, floods, halves, corners)",
+    ("restings", "OneEnd"): "__init__(self, pairs) __eq__(self, other)",
+    ("restings", "TwoEnds"): "__init__(self, cargo, damage, one, other) __eq__(self, other)",
+    ("verdict", "Safe"): "__init__(self, trees)",
+    ("verdict", "Lost"): "__init__(self, cargo, damage, floods, wrong)",
+    ("verdict", "Node"): "__init__(self, lot, wrongs, onward)",
+    ("heights", "Reached"): "__init__(self, height, cargo, damage, floods)",
+    ("cells", "Cell"): """__init__(self, halves, corners) mean within(self, half) beyond(self, halves)
+        __contains__(self, couple) __eq__(self, other)""",
+    ("charts", "Piece"): """__init__(self, number, damage, floods, wrong, halves, corners) __contains__(self, cargo)
+        __eq__(self, other)""",
+    ("charts", "Chart"): """__init__(self, ship, rule, damages, pieces) is_safe loses(self, cargo)
+        pieces_at(self, cargo) damages_at(self, cargo) of_damage(self, number) __len__(self) __iter__(self)
         __eq__(self, other)""",
 }
 

@@ -1,0 +1,19 @@
+"""Plain things: numbers and strings, and tuples of such."""
+from dryholds.ratios import is_whole
+
+
+def is_just(thing, wanted):
+    """Whether a thing of any kind is just this number, this string or this tuple of such; True is not 1."""
+    if isinstance(wanted, tuple):
+        return (isinstance(thing, tuple) and len(thing) == len(wanted)
+                and all([is_just(one, other) for one, other in zip(thing, wanted)]))
+    if isinstance(wanted, str):
+        return isinstance(thing, str) and thing == wanted
+    return is_whole(thing, wanted, wanted)
+
+
+def as_tuples(thing):
+    """A thing of any kind with a tuple for each list in it."""
+    if isinstance(thing, (list, tuple)):
+        return tuple([as_tuples(one) for one in thing])
+    return thing
