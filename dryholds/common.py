@@ -69,12 +69,20 @@ def _barred_beside(halves, index, corner):
     The corner is, of the closed common points of others, one that comes nearest to the half-plane. What keeps it from
     coming nearer are half-planes with the corner on their border, and one or two of them are enough.
     """
-    rows = [half.row for half in halves]
-    beside = [at for at, row in enumerate(rows) if row_excess(row, corner) == 0]
-    pairs = [(at, index) for at in beside if _are_opposed(rows[at], rows[index])]
-    triples = [(one, other, index) for one in beside for other in beside
-               if one < other and _are_around(rows[one], rows[other], rows[index])]
-    return _barred_of(halves, tuple(sorted((pairs + triples)[0])))
+    row = halves[index].row
+    left = right = index
+    for at, half in enumerate(halves):
+        if row_excess(half.row, corner) != 0:
+            continue
+        if _are_opposed(half.row, row):
+            return _barred_of(halves, tuple(sorted([at, index])))
+        # Of those that point to one side, the one that points the farthest back leaves the most to the other side.
+        bend = _bend(row, half.row)
+        if bend > 0 and (left == index or _bend(halves[left].row, half.row) > 0):
+            left = at
+        if bend < 0 and (right == index or _bend(halves[right].row, half.row) < 0):
+            right = at
+    return _barred_of(halves, tuple(sorted([left, right, index])))
 
 
 def _are_opposed(one, other):

@@ -3,9 +3,11 @@ import unittest
 from fractions import Fraction
 from math import gcd
 
-from dryholds.common import Barred, Point, all_barred, barred_fault, find_common, needed_halves, point_fault
+from dryholds.common import Barred, Point, all_barred, barred_behind, barred_fault, find_common, needed_halves
+from dryholds.common import point_fault
 from dryholds.errors import BadPoint
 from dryholds.halfplanes import HalfPlane
+from dryholds.polygons import polygon_of
 from tests.helpers import BIG, NO_RATIOS, NO_SEQUENCES, NO_WHOLES, Case, f, half, have_common, point, points, r
 from tests.test_polygons import any_half, dice
 
@@ -309,6 +311,32 @@ class Needed(Case):
         around = [half(-2 * at, 1, -at * at) for at in range(-20, 19)]
         self.same(needed_halves(around + [half(0, 1, -5)]), tuple(range(39)))
         self.same(needed_halves([half(0, 1, -5)] + around), tuple(range(1, 40)))
+
+
+class Behind(Case):
+    def test_one_half_plane_behind_a_polygon(self):
+        chance = dice(16)
+        barred = 0
+        for _ in range(150):
+            # Many lines cross in one corner here, and some polygons are a stretch or one point.
+            through = [half(chance.randint(-3, 3), chance.randint(-3, 3), 0) for _ in range(chance.randint(0, 6))]
+            halves = [half(1, 0, -4), half(-1, 0, -4), half(0, 1, -4), half(0, -1, -4)] + through
+            corners = polygon_of(halves)
+            for _ in range(5):
+                more = half(chance.randint(-3, 3), chance.randint(-3, 3), chance.randint(0, 4), chance.random() < 0.5)
+                if more.reach == "line" and not have_common([*halves, more]):
+                    found = barred_behind(tuple(halves), corners, more)
+                    self.assertIsNone(barred_fault([*halves, more], found))
+                    self.assertTrue(shut([*halves, more], found.indices, found.weights))
+                    self.same(found.indices[-1], len(halves))
+                    barred += 1
+        self.assertGreater(barred, 100)
+
+    def test_many_lines_through_one_point(self):
+        fan = [half(at, 100 - at * at, 0) for at in range(-9, 10)]
+        for more in (half(0, -1, 0, True), half(0, -1, 1), half(-1, -50, 0, True)):
+            found = find_common([*fan, half(0, -1, -5), more])
+            self.assertTrue(shut([*fan, half(0, -1, -5), more], found.indices, found.weights))
 
 
 if __name__ == "__main__":

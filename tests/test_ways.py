@@ -19,9 +19,10 @@ def ways_by_walk(ship, damage, cargo):
 
 
 def open_sea(many=4):
-    """A ship whose holds all have open ports or bulkheads: with (40, 0) every order of floods goes on."""
-    rows = [hold(at * 5 - 10, at * 5 - 5, 1, "1/2", 60) for at in range(many)]
-    ports = [(at, r(at * 5 - 7), r(0)) for at in range(many)]
+    """A ship about place 0 whose holds all have open ports: with (40, 0) every order of floods goes on."""
+    first = -3 * many
+    rows = [hold(first + at * 6, first + at * 6 + 6, 1, "1/2", 60) for at in range(many)]
+    ports = [(at, r(first + at * 6 + 3), r(0)) for at in range(many)]
     return Ship(rows, [r(0)] * (many - 1), [(r(0), r(60))], (r(0), r(0)), [], ports)
 
 
