@@ -78,9 +78,9 @@ def _barred_beside(halves, index, corner):
             return _barred_of(halves, tuple(sorted([at, index])))
         # Of those that point to one side, the one that points the farthest back leaves the most to the other side.
         bend = _bend(row, half.row)
-        if bend > 0 and (left == index or _bend(halves[left].row, half.row) > 0):
+        if bend > 0 and _bend(halves[left].row, half.row) > 0:
             left = at
-        if bend < 0 and (right == index or _bend(halves[right].row, half.row) < 0):
+        if bend < 0 and _bend(halves[right].row, half.row) < 0:
             right = at
     return _barred_of(halves, tuple(sorted([left, right, index])))
 

@@ -88,7 +88,8 @@ class CellOf(Case):
         self.assertEqual(set(kinds), {True, False})
 
     def test_strict_half_planes_that_leave_no_couple(self):
-        for more in (half(1, 0, 6, True), half(-1, -1, 0, True), half(0, 0, 0, True), half(0, 0, 1), half(0, -1, 0, True)):
+        for more in (half(1, 0, 6, True), half(-1, -1, 0, True), half(0, 0, 0, True), half(0, 0, 1),
+                     half(0, -1, 0, True)):
             self.assertIsNone(cell_of((*SQUARE, more)))
         for more, corners in ((half(1, 0, 6), points((6, 0), (6, 6))), (half(-1, -1, 0), points((0, 0))),
                               (half(0, 0, 0), square().corners), (half(0, 0, -1, True), square().corners)):
@@ -137,7 +138,8 @@ class NewHalves(Case):
     def test_in_order(self):
         a, b, c = half(1, 0, 0), half(0, 1, 0), half(0, 1, 0, True)
         for halves, others, wanted in (((a, b, c), (), (a, b, c)), ([a, b, a, c, b], [], (a, b, c)),
-                                       ((a, b, c), [b], (a, c)), ((c, b), (b,), (c,)), ((a,), (a, a), ()), ((), (a,), ()),
+                                       ((a, b, c), [b], (a, c)), ((c, b), (b,), (c,)), ((a,), (a, a), ()),
+                                       ((), (a,), ()),
                                        # The same points, but not equal.
                                        ((half(2, 0, 0), a), (half(3, 0, 0),), (half(2, 0, 0), a))):
             got = new_halves(halves, others)
@@ -193,8 +195,9 @@ class CellsLeft(Case):
             groups = [some_halves(chance, chance.randint(2, 4)) for _ in range(chance.randint(0, 5))]
             wanted = cells
             for group in groups:
-                wanted = [part for cell in wanted
-                          for part in (Beyond.parts(self, cell, group) if have_common((*cell.halves, *group)) else [cell])]
+                parts = [Beyond.parts(self, cell, group) if have_common((*cell.halves, *group)) else [cell]
+                         for cell in wanted]
+                wanted = [part for row in parts for part in row]
             got = cells_left(cells, groups)
             self.assertIs(type(got), tuple)
             self.same(told(got), told(wanted))

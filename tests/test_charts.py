@@ -8,7 +8,7 @@ from dryholds.rays import cargo_at
 from dryholds.rules import Rule
 from dryholds.verdict import is_safe
 from dryholds.wrongs import wrongs_of
-from tests.helpers import NO_WHOLES, Case, all_lots_of, f, four_holds, half, have_common, one_hold, point, points, r, rs
+from tests.helpers import NO_WHOLES, Case, all_lots_of, four_holds, half, have_common, one_hold, point, points, r, rs
 from tests.helpers import three_holds
 from tests.test_cells import is_in
 from tests.test_damages import NO_DAMAGES
@@ -206,7 +206,6 @@ class Errors(Case):
             for moment in range(-199, 200, 2):
                 lost += 0 in chart.damages_at((r(weight, 2), r(moment, 2)))
         self.assertLess(abs(Fraction(lost, 60 * 200) - Fraction(1, 4)), Fraction(1, 100))
-        self.same(f(r(1)), Fraction(1))
 
 
 if __name__ == "__main__":

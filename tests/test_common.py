@@ -8,7 +8,7 @@ from dryholds.common import point_fault
 from dryholds.errors import BadPoint
 from dryholds.halfplanes import HalfPlane
 from dryholds.polygons import polygon_of
-from tests.helpers import BIG, NO_RATIOS, NO_SEQUENCES, NO_WHOLES, Case, f, half, have_common, point, points, r
+from tests.helpers import BIG, NO_RATIOS, NO_SEQUENCES, NO_WHOLES, Case, f, half, have_common, point, r
 from tests.test_polygons import any_half, dice
 
 

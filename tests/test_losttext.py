@@ -85,9 +85,9 @@ class Reading(Case):
     def test_numbers(self):
         bad = ("", "x", "-1", "+1", "01", "-0", "1/2", "2/4", "1.0", "9" * 301, "--1")
         for word in bad:
-            for index, row in ((2, f"flood {word} bulkhead 2"), (2, f"flood 2 bulkhead {word}"), (3, f"flood 0 port {word}"),
-                               (4, f"wrong mark {word}"), (4, f"wrong keel {word}"), (4, f"wrong deck {word} 0"),
-                               (4, f"wrong deck 0 {word}")):
+            for index, row in ((2, f"flood {word} bulkhead 2"), (2, f"flood 2 bulkhead {word}"),
+                               (3, f"flood 0 port {word}"), (4, f"wrong mark {word}"),
+                               (4, f"wrong keel {word}"), (4, f"wrong deck {word} 0"), (4, f"wrong deck 0 {word}")):
                 self.refused(BadText, {"row": index, "what": "number"}, parse_lost, with_row(index, row))
             if word not in ("-1", "1/2"):
                 for row in (f"cargo {word} 0", f"cargo 0 {word}"):

@@ -146,6 +146,13 @@ class LeastFactors(Case):
         # The line falls towards the port: it never comes to it.
         self.same(least_factors(ship, (), point(1, -20)), (((), r(0)),))
 
+    def test_the_order_of_lots(self):
+        # Hold 3 does not flood behind (0, 2) before (1, 2) does, yet (0, 2, 3) stands ahead of (1, 2, 3).
+        rows = [hold(-9, -2, 3, 0, 7), hold(-2, 0, 1, "1/4", 5), hold(0, 2, 1, 0, 9), hold(2, 4, 3, 1, 6)]
+        ship = Ship(rows, [r("7/2"), r("1/2"), r(1)], [(r(3), r(9))], (r(3), r(0)), [], [(0, r(-4), r(2))], r(200))
+        self.same([lot for lot, _ in least_factors(ship, (2,), point(0, 0))],
+                  [(2,), (0, 2), (1, 2), (2, 3), (0, 1, 2), (0, 2, 3), (1, 2, 3), (0, 1, 2, 3)])
+
     def test_asked_again_at_each_factor(self):
         for ship, damage, cargo in cases(44, 10, 3):
             for lot, factor in least_factors(ship, damage, cargo):

@@ -201,13 +201,15 @@ class RowAlong(Case):
             self.refused(BadFloods, {"index": 1, "what": "pair"}, row_along, ship, LINE, (0,), [first, thing])
         for thing in (*NO_WHOLES, -1, 3, 0, 1):
             for edge in (("bulkhead", 0), None):
-                self.refused(BadFloods, {"index": 1, "what": "hold"}, row_along, ship, LINE, (0,), [first, (thing, edge)])
+                told_error = {"index": 1, "what": "hold"}
+                self.refused(BadFloods, told_error, row_along, ship, LINE, (0,), [first, (thing, edge)])
         for edge in (None, "port", 0, ("port", 0), ("port", 3), ("bulkhead", 0), ("bulkhead", 2), ("bulkhead", True),
-                     ("bulkhead", 1.0), ("bulkhead",), ("bulkhead", 1, 1), (1, "bulkhead"), ["Bulkhead", 1], ("port", "1"),
-                     {"bulkhead": 1}, ("door", 1)):
+                     ("bulkhead", 1.0), ("bulkhead",), ("bulkhead", 1, 1), (1, "bulkhead"), ["Bulkhead", 1],
+                     ("port", "1"), {"bulkhead": 1}, ("door", 1)):
             self.refused(BadFloods, {"index": 1, "what": "edge"}, row_along, ship, LINE, (0,), [first, (2, edge)])
         # Water has come to hold 2 no way yet: its bulkhead is no edge, its port is.
-        self.refused(BadFloods, {"index": 0, "what": "edge"}, row_along, ship, LINE, (0,), [(2, ("bulkhead", 1)), first])
+        floods = [(2, ("bulkhead", 1)), first]
+        self.refused(BadFloods, {"index": 0, "what": "edge"}, row_along, ship, LINE, (0,), floods)
         self.same(row_along(ship, LINE, (0,), [(2, ["port", 1])]).lot, (0, 2))
 
     def test_the_first_wrong_flood_counts(self):

@@ -10,9 +10,9 @@ from dryholds.wrongs import wrongs_of
 from tests.helpers import NO_SEQUENCES, Case, half, have_common, one_hold, point, r, three_holds
 from tests.test_damages import NO_DAMAGES
 from tests.test_rows import LINE, all_orders, halves_along, small_rules
-from tests.test_verdict import quiet, sums_bar
+from tests.test_verdict import quiet
 from tests.test_ways import open_sea
-from tests.walks import SHIPS, box, corners_and_more, edges_into, rocker, tipping, two_holds, walk, wrong_names
+from tests.walks import SHIPS, box, corners_and_more, rocker, tipping, two_holds, walk, wrong_names
 
 DAMAGES = ((), (0,))
 SHIP = open_sea(2)
@@ -137,6 +137,10 @@ class Trees(Case):
         ship, rule, damages = rocker(), box(0, 19, 0, 0), ((),)
         tree = trees_of(ship, rule, damages)[0]
         self.same([type(part) for _, _, part in tree.onward], [Barred, Barred])
+        self.assertIsNone(tree_fault(ship, rule, damages, (tree,)))
+        for at in (0, 1):
+            wrong = tree.onward[1 - at][2]
+            self.same(tree_fault(ship, rule, damages, (put(tree, (at,), wrong),)), "barred")
         full = full_node(ship, (), rule.halves)
         self.assertIsNone(tree_fault(ship, rule, damages, (full,)))
         for path in paths(full):
@@ -214,7 +218,8 @@ class Losses(Case):
         self.same(lost_fault(self.SHIP, self.RULE, ((1,),), Lost(point(120, 0), (), (), ("mark", 0))), "damage")
 
     def test_rule(self):
-        for cargo in (point(151, 0), point(-1, 0), point(50, 6), (100, 0), ((True, 1), (0, 1)), None, (r(1),), ((2, 2), r(0))):
+        for cargo in (point(151, 0), point(-1, 0), point(50, 6), (100, 0), ((True, 1), (0, 1)), None, (r(1),),
+                      ((2, 2), r(0))):
             self.same(self.fault(cargo=cargo), "rule")
 
     def test_flood(self):
@@ -260,14 +265,6 @@ class Losses(Case):
         self.assertIsNone(lost_fault(one_hold(), rule, ((0,),), Lost(point(50, 0), (0,), (), ("mark", 0))))
         self.same(lost_fault(one_hold(), rule, ((0,),), Lost(point(40, 0), (0,), (), ("mark", 0))), "wrong")
         self.same(lost_fault(two_holds(), rule, ((0,),), Lost(point(50, 0), (1,), (), ("mark", 0))), "damage")
-
-
-class Sums(Case):
-    def test_the_test_knows_a_barred(self):
-        halves = (half(1, 0, 1), half(-1, 0, 0))
-        self.assertTrue(sums_bar(halves, Barred((0, 1), (1, 1))))
-        self.assertFalse(sums_bar(halves, Barred((0, 1), (1, 2))))
-        self.assertEqual(edges_into(two_holds(), (), 0), [])
 
 
 if __name__ == "__main__":

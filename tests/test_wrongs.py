@@ -20,6 +20,8 @@ class WrongsOf(Case):
                   (("keel", 0), *rs("-1/20", "3/200", 0), True), (("keel", 1), *rs("-1/20", "-3/200", 0), True)]
         self.same(told(wrongs_of(one_hold(), ())), wanted)
         self.same(told(wrongs_of(one_hold(), [])), wanted)
+        self.assertIs(type(wrongs_of(one_hold(), ())), tuple)
+        self.assertIs(type(wrongs_of(one_hold(), ())[0]), tuple)
 
     def test_every_wrong_end_of_every_lot(self):
         for ship in SHIPS + LARGE + tuple(some_ships(4, 12)):
