@@ -10,8 +10,8 @@ class Plain(Case):
             self.same(is_just(thing, thing), True)
         for thing, wanted in ((True, 1), (False, 0), (1.0, 1), ("1", 1), (1, "1"), (None, 0), ((True,), (1,)),
                               ([1], (1,)), ((1,), (1, 2)), ((1, 2), (1,)), (1, (1,)), ((1,), 1), ("ab", ("a", "b")),
-                              (2, 1), ("port", "ports"), (0, "port"), (("port",), ("mark",)), (("port", 0), ("port", 1)),
-                              (((1, True),), ((1, 1),))):
+                              (2, 1), ("port", "ports"), (0, "port"), (("port",), ("mark",)),
+                              (("port", 0), ("port", 1)), (((1, True),), ((1, 1),))):
             self.same(is_just(thing, wanted), False)
 
     def test_tuples(self):
