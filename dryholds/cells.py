@@ -70,7 +70,7 @@ def cells_left(cells, groups):
     left = list(cells)
     for group in groups:
         kept = []
-        for cell in left:
+        for cell in list(left):
             beyond, met = _parted(cell, group)
             kept.extend([cell] if met is None else beyond)
         left = kept

@@ -1,5 +1,6 @@
 """Lots, ascending tuples of flooded holds, and the checks that all parts share."""
 from dryholds.errors import BadCargo, BadHold, BadLot, BadPlace
+from dryholds.plain import ascending_tuples
 from dryholds.ratios import ZERO, is_between, is_ratio, is_sequence, is_whole
 
 
@@ -42,11 +43,8 @@ def check_place(place):
 
 def all_lots(ship):
     """Yields all lots: lots of fewer holds first, those of equal size ascending."""
-    lots = [()]
-    while lots:
-        for lot in lots:
-            yield lot
-        lots = [lot + (hold,) for lot in lots for hold in range(len(ship)) if not lot or hold > lot[-1]]
+    lots = ascending_tuples(len(ship))
+    yield from lots
 
 
 def lot_with(ship, lot, hold):

@@ -17,3 +17,13 @@ def as_tuples(thing):
     if isinstance(thing, (list, tuple)):
         return tuple([as_tuples(one) for one in thing])
     return thing
+
+
+def ascending_tuples(many):
+    """All ascending tuples of numbers from 0 to below many, none twice: shorter ones first, then ascending."""
+    every = [()]
+    longest = [()]
+    while longest:
+        longest = [row + (number,) for row in longest for number in range(row[-1] + 1 if row else 0, many)]
+        every.extend(longest)
+    return every

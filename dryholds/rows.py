@@ -34,7 +34,7 @@ def rows_onward(ship, lot, halves, corners):
     known = {}
     while rows:
         longer = []
-        for row in rows:
+        for row in list(rows):
             if row.lot not in known:
                 known[row.lot] = floods_at(ship, row.lot)
             for hold, edge, half in known[row.lot]:
