@@ -84,11 +84,11 @@ def chart_of(ship, rule, damages):
     pieces = []
     for number, damage in enumerate(damages):
         for row in flood_rows(ship, rule, damage):
-            pieces.extend(_pieces_of(ship, number, row, known))
+            pieces.extend(pieces_of(ship, number, row, known))
     return Chart(ship, rule, damages, pieces)
 
 
-def _pieces_of(ship, number, row, known):
+def pieces_of(ship, number, row, known):
     """The pieces of one row of floods, one for each wrong end that a cargo comes to."""
     pieces = []
     for name, half in known_wrongs(ship, row.lot, known):

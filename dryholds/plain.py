@@ -19,6 +19,11 @@ def as_tuples(thing):
     return thing
 
 
+def as_tuple(thing):
+    """A thing of any kind, a tuple if it is a list; what is in it stays as it is, so that no list becomes a ratio."""
+    return tuple(thing) if isinstance(thing, list) else thing
+
+
 def ascending_tuples(many):
     """All ascending tuples of numbers from 0 to below many, none twice: shorter ones first, then ascending."""
     every = [()]

@@ -1,11 +1,11 @@
 """The verdict: whether a ship is safe for all cargoes of a rule, all damages and all orders of floods."""
 from dryholds.common import barred_behind
 from dryholds.damages import check_damages, check_most
-from dryholds.floods import floods_at
-from dryholds.lots import check_cargo
+from dryholds.floods import can_flood, floods_at
+from dryholds.lots import check_cargo, lot_with
 from dryholds.lotsfrom import first_loss
 from dryholds.rows import counted_rows
-from dryholds.wrongs import wrongs_of
+from dryholds.wrongs import first_wrong, wrongs_of
 
 
 class Safe:
@@ -111,4 +111,15 @@ def loss_of(ship, damages, cargo):
 
 def is_safe_cargo(ship, damages, cargo):
     """Whether no damage loses the cargo."""
-    return loss_of(ship, damages, cargo) is None
+    left = list(check_damages(ship, damages))
+    cargo = check_cargo(cargo)
+    # What comes behind a lot is the same whatever it came from, so each lot is looked at once for all damages.
+    seen = set()
+    while left:
+        lot = left.pop()
+        if lot not in seen:
+            seen.add(lot)
+            if first_wrong(ship, lot, cargo) is not None:
+                return False
+            left.extend([lot_with(ship, lot, hold) for hold in can_flood(ship, lot, cargo)])
+    return True

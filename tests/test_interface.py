@@ -58,9 +58,33 @@ FUNCTIONS = {
     "losttext": "lost_text(lost) parse_lost(text)",
     "cells": "cell_of(halves) new_halves(halves, others) cells_left(cells, groups)",
     "charts": "chart_of(ship, rule, damages)",
+    "areas": "safe_polygons(chart) lost_share(chart) safe_share(chart) damage_shares(chart) depth_shares(chart)",
+    "compare": "compare_losses(one, other) same_losses(one, other)",
+    "comparejudge": "cover_fault(one, other, covered) alone_fault(one, other, alone)",
+    "readings": "readings_of(ship, lot, cargo, places)",
+    "fits": """fitting_rows(ship, rule, damages, readings)
+        filling_fault(ship, rule, damages, readings, filling)""",
+    "surely": """surely_flooded(fits) possibly_flooded(fits) fitting_damages(fits) weight_range(fits) moment_range(fits)
+        height_range(ship, fits, place) two_fillings(fits, hold)""",
+    "hidden": "parting_place(ship, one, other) hidden_hold(ship, rule, damages, hold)",
+    "fates": "fate_of(ship, fits)",
+    "changes": "apply_changes(ship, rule, damages, changes) is_tame(change)",
+    "mends": """find_mends(ship, rule, damages, pool) mends_fault(ship, rule, damages, pool, mends)
+        find_spoilers(ship, rule, damages, pool) good_for(ship, rule, damages, pool, cargo)""",
+    "limits": "lightest_loss(ship, rule, damages) top_limit(ship, rule, damages, bulkhead)",
+    "bench": "",
+    "boxes": """all_batches(boxes) amounts_when(boxes, batch) cargo_when(boxes, batch) overfull_at(boxes, batch)""",
+    "lading": """does_stand(ship, damages, boxes, batch) standing_batches(ship, damages, boxes)
+        lading_order(ship, damages, boxes) order_fault(ship, damages, boxes, order)
+        stuck_fault(ship, damages, boxes, batches) ladings_count(ship, damages, boxes)
+        must_precede(ship, damages, boxes)""",
+    "moves": """moves_between(ship, damages, boxes, one, other) moves_fault(ship, damages, boxes, one, other, deeds)
+        shut_fault(ship, damages, boxes, one, other, batches)""",
+    "log": "",
 }
 GENERATORS = {("common", "all_barred"), ("lots", "all_lots"), ("ways", "all_ways"), ("rows", "flood_rows"),
-              ("rows", "rows_onward")}
+              ("rows", "rows_onward"), ("boxes", "all_batches")}
+STATIC = ("at", "of", "played")
 CLASSES = {
     ("ship", "Ship"): """__init__(self, holds, tops, marks, own, doors=(), ports=(), slack=(0, 1)) ends __len__(self)
         __eq__(self, other) place_of(self, bulkhead) edge_of(self, bulkhead) mirrored(self) shifted(self, shift)
@@ -97,6 +121,30 @@ CLASSES = {
     ("charts", "Chart"): """__init__(self, ship, rule, damages, pieces) is_safe loses(self, cargo)
         pieces_at(self, cargo) damages_at(self, cargo) of_damage(self, number) __len__(self) __iter__(self)
         __eq__(self, other)""",
+    ("compare", "Covered"): "__init__(self, trees)",
+    ("compare", "Alone"): "__init__(self, cargo, piece)",
+    ("compare", "Shut"): "__init__(self, barred)",
+    ("compare", "Cuts"): "__init__(self, piece, branches)",
+    ("readings", "Readings"): """__init__(self, rows) with_row(self, place, low, high) of(*rows) __len__(self)
+        __iter__(self) __eq__(self, other)""",
+    ("fits", "Fit"): """__init__(self, damage, floods, lot, halves, corners) __contains__(self, cargo)
+        __eq__(self, other)""",
+    ("fits", "Filling"): "__init__(self, damage, floods, lot, cargo) __eq__(self, other)",
+    ("fates", "Fate"): "__init__(self, name) __eq__(self, other)",
+    ("fates", "Unsure"): "__init__(self, safe, lost) __eq__(self, other)",
+    ("mends", "Mends"): "__init__(self, least, losses) choices needed",
+    ("mends", "Spoiler"): "__init__(self, choice, added, lost)",
+    ("limits", "Limit"): "__init__(self, value, reached) __eq__(self, other)",
+    ("limits", "Sunk"): "__init__(self, lost)",
+    ("bench", "Bench"): """__init__(self, ship, rule, damages) put(self, change) take_back(self, number)
+        verdict_now(self) trial(self) tried(self, call) __len__(self) __iter__(self)""",
+    ("boxes", "Boxes"): "__init__(self, slots, rows) __len__(self) __eq__(self, other)",
+    ("lading", "Lading"): "__init__(self, order) __eq__(self, other)",
+    ("lading", "Stuck"): "__init__(self, batches) __eq__(self, other)",
+    ("moves", "Moves"): "__init__(self, deeds) __eq__(self, other)",
+    ("log", "Log"): """__init__(self, ship, damages, boxes) cargo_now cargoes played(ship, damages, boxes, deeds)
+        load(self, box) unload(self, box) take_back(self, number) next_boxes(self) tried(self, work) trial(self)
+        __len__(self) __iter__(self) __eq__(self, other)""",
 }
 
 
@@ -129,7 +177,7 @@ class Interface(unittest.TestCase):
                     thing = vars(made)[member]
                     if arguments is None:
                         self.assertIsInstance(thing, property)
-                    elif member == "at":
+                    elif member in STATIC:
                         self.assertIsInstance(thing, staticmethod)
                         self.assertEqual(str(inspect.signature(thing.__func__)), arguments)
                     elif member in ("__eq__", "__contains__"):

@@ -2,15 +2,24 @@
 import unittest
 from fractions import Fraction
 
+from dryholds.areas import damage_shares, depth_shares, lost_share
 from dryholds.charts import chart_of
+from dryholds.compare import Alone, Covered, compare_losses, same_losses
 from dryholds.errors import BadShip
+from dryholds.fates import fate_of
+from dryholds.fits import fitting_rows
 from dryholds.floods import can_flood, open_edges
 from dryholds.heights import highest_line
+from dryholds.hidden import hidden_hold
+from dryholds.limits import Limit, lightest_loss, top_limit
 from dryholds.lotsfrom import ends_from, is_lost, lots_from
+from dryholds.polygons import twice_area
 from dryholds.postures import Tips
 from dryholds.rays import bearing_of, deepening_of, least_factors
+from dryholds.readings import Readings
 from dryholds.rows import flood_rows
 from dryholds.rules import parts_by
+from dryholds.surely import possibly_flooded, surely_flooded
 from dryholds.verdict import Safe, is_safe, is_safe_cargo, loss_of, verdict_of
 from dryholds.wrongs import first_wrong, wrongs_of
 from tests.helpers import Case, all_lots_of, f, half, r
@@ -152,6 +161,143 @@ class Ships(Case):
                 self.assertIs(type(there), type(here))
                 if not isinstance(here, Tips):
                     self.same((there.height, there.damage, there.floods), (r(4 * f(here.height)), (0,), here.floods))
+
+
+def small_charts():
+    """Ships, rules and damages with charts that are not too great."""
+    for ship in SHIPS:
+        damages = tuple(all_lots_of(len(ship))[:2])
+        for rule in small_rules(ship)[2:]:
+            if len(chart_of(ship, rule, damages)) <= 60:
+                yield ship, rule, damages
+
+
+def seen_at(ship, other, readings):
+    """Readings of a ship as they are read of the same ship seen otherwise."""
+    first, last = ship.ends
+    its_first, its_last = other.ends
+    rows = []
+    # Places go from end to end alike; heights grow with the decks.
+    deep = Fraction(f(other.holds[0][4]), f(ship.holds[0][4]))
+    for place, low, high in readings:
+        share = (f(place) - first) / (last - first)
+        rows.append((r(its_first + share * (its_last - its_first)), r(f(low) * deep), r(f(high) * deep)))
+    return Readings(rows)
+
+
+class Charts(Case):
+    def test_pieces_and_shares_of_corresponding_rules(self):
+        for ship, rule, damages in small_charts():
+            chart = chart_of(ship, rule, damages)
+            for other, cargo_there, rule_there in views(ship):
+                there = chart_of(other, rule_there(rule), damages)
+                self.same([(piece.number, piece.damage, piece.floods, piece.wrong) for piece in there],
+                          [(piece.number, piece.damage, piece.floods, piece.wrong) for piece in chart])
+                self.assertEqual([set(piece.corners) for piece in there],
+                                 [{cargo_there(corner) for corner in piece.corners} for piece in chart])
+                if len(rule.corners) > 2:
+                    self.same(depth_shares(there), depth_shares(chart))
+                    self.same(damage_shares(there), damage_shares(chart))
+
+    def test_the_mirrored_ship(self):
+        for ship, rule, damages in small_charts():
+            mirrored = tuple(back(ship, lot) for lot in damages)
+            chart = chart_of(ship, rule, damages)
+            there = chart_of(ship.mirrored(), rule.mirrored(), mirrored)
+            if len(rule.corners) > 2:
+                self.same(depth_shares(there), depth_shares(chart))
+            for corner in [corner for piece in chart for corner in piece.corners]:
+                self.same(there.damages_at(turned(ship, corner, 1, -1)), chart.damages_at(corner))
+
+    def test_comparisons_of_corresponding_rules(self):
+        kinds = set()
+        for ship, rule, damages in small_charts():
+            one, other = chart_of(ship, rule, damages[:1]), chart_of(ship, rule, damages[1:])
+            for view, _, rule_there in views(ship):
+                its = [chart_of(view, rule_there(rule), lots) for lots in (damages[:1], damages[1:])]
+                kind = type(compare_losses(one, other))
+                self.assertIs(type(compare_losses(*its)), kind)
+                self.same(same_losses(*its), same_losses(one, other))
+                kinds.add(kind)
+        self.same(len(kinds), 2)
+
+    def test_the_whole_ship_loses_no_more_than_the_split_one(self):
+        more = 0
+        for ship, rule, damages in small_charts():
+            for number, (start, to, *_) in enumerate(ship.holds):
+                if to - start > 1:
+                    other = ship.split(number, start + 1)
+                    cut = chart_of(other, rule, tuple(parted(lot, number) for lot in damages))
+                    if len(cut) <= 60:
+                        whole = chart_of(ship, rule, damages)
+                        self.assertIs(type(compare_losses(whole, cut)), Covered)
+                        more += isinstance(compare_losses(cut, whole), Alone)
+        self.assertGreater(more, 0)
+
+    def test_the_lost_areas_of_the_parts_of_a_rule_add_up(self):
+        several = 0
+        for ship, rule, damages in small_charts():
+            if len(rule.corners) < 3:
+                continue
+            middle = f(rule.least_weight) + f(rule.greatest_weight)
+            for line in (half(1, 0, middle / 2), half(0, -1, 1), half(2, 1, middle)):
+                parts = [part for part in parts_by(rule, line) if part is not None and len(part.corners) > 2]
+                lost = [f(twice_area(part.corners)) * f(lost_share(chart_of(ship, part, damages))) for part in parts]
+                whole = f(twice_area(rule.corners)) * f(lost_share(chart_of(ship, rule, damages)))
+                self.same(sum(lost), whole)
+                several += len(parts) > 1
+        self.assertGreater(several, 10)
+
+
+class Readers(Case):
+    def test_fits_fates_and_hidden_holds_of_corresponding_rules(self):
+        fates = set()
+        for ship, rule, damages in small_charts():
+            first, last = ship.ends
+            readings = Readings([(r(first), r(0), r(4)), (r(last), r(1, 2), r(5))])
+            fits = fitting_rows(ship, rule, damages, readings)
+            for other, cargo_there, rule_there in views(ship):
+                law = rule_there(rule)
+                its = fitting_rows(other, law, damages, seen_at(ship, other, readings))
+                self.same([(fit.damage, fit.floods, fit.lot) for fit in its],
+                          [(fit.damage, fit.floods, fit.lot) for fit in fits])
+                self.assertEqual([set(fit.corners) for fit in its],
+                                 [{cargo_there(corner) for corner in fit.corners} for fit in fits])
+                if fits:
+                    one, two = fate_of(ship, fits), fate_of(other, its)
+                    self.same(getattr(two, "name", "unsure"), getattr(one, "name", "unsure"))
+                    fates.add(getattr(one, "name", "unsure"))
+                    self.same((surely_flooded(its), possibly_flooded(its)),
+                              (surely_flooded(fits), possibly_flooded(fits)))
+                for number in range(len(ship)):
+                    self.same(hidden_hold(other, law, damages, number) is None,
+                              hidden_hold(ship, rule, damages, number) is None)
+        self.assertGreater(len(fates), 1)
+
+    def test_hidden_holds_of_the_mirrored_ship(self):
+        for ship, rule, damages in small_charts():
+            mirrored = tuple(back(ship, lot) for lot in damages)
+            for number in range(len(ship)):
+                its = hidden_hold(ship.mirrored(), rule.mirrored(), mirrored, len(ship) - 1 - number)
+                self.same(its is None, hidden_hold(ship, rule, damages, number) is None)
+
+
+class Limits(Case):
+    def test_limits_of_corresponding_rules(self):
+        for ship, rule, damages in small_charts():
+            mine = lightest_loss(ship, rule, damages)
+            for other, cargo_there, rule_there in views(ship):
+                its = lightest_loss(other, rule_there(rule), damages)
+                wanted = mine and Limit(cargo_there((mine.value, r(0)))[0], mine.reached)
+                self.assertEqual(its, wanted)
+                deep = Fraction(f(other.holds[0][4]), f(ship.holds[0][4]))
+                for bulkhead in range(len(ship.tops)):
+                    if not any(beside == bulkhead for beside, _ in ship.doors):
+                        here = top_limit(ship, rule, damages, bulkhead)
+                        there = top_limit(other, rule_there(rule), damages, bulkhead)
+                        self.assertIs(type(there), type(here))
+                        if isinstance(here, Limit):
+                            self.assertEqual(there, Limit(r(f(here.value) * deep), here.reached))
 
 
 def parted(lot, number):
